@@ -1,0 +1,1 @@
+"""Copies kept in step: one calendar, and three devices that show it."""
