@@ -12,11 +12,18 @@ MAKE = 0
 SET = 1
 REMOVE = 2
 PUSH = 3
+PULL = 4
 FORGET = 5
+SHOWN = 6
+HOUSE = 7
+CLASHES = 8
+SETTLE = 9
 
 OUT_OF_BOUNDS = -1
+DATE_GONE = -2
 NO_DEVICE = -3
 NOT_SHOWN = -4
+NO_CLASH = -4
 FULL = -5
 NOTHING_WAITS = -6
 
@@ -30,6 +37,9 @@ PUSH_LOST = 1
 PUSH_ANSWER_LOST = 2
 PULL_LOST = 1
 
+LET_GO = 0
+ONCE_MORE = 1
+
 
 class Calendar:
     def __init__(self):
@@ -39,6 +49,8 @@ class Calendar:
     def answer(self, call, given):
         if call == FORGET:
             return forget(self.house, given[0])
+        if call == HOUSE:
+            return told_dates(self.house.dates())
         if given[0] >= DEVICES:
             return [NO_DEVICE]
         return answer_on_device(self.house, self.devices[given[0]], call, given[1:])
@@ -53,7 +65,15 @@ def answer_on_device(house, device, call, given):
         return take_out(house, device, given[0])
     if call == PUSH:
         return push(house, device, given[0])
-    return pull(house, device, given[0])
+    if call == PULL:
+        return pull(house, device, given[0])
+    if call == SHOWN:
+        return told_dates(device.shown(house))
+    if call == CLASHES:
+        return told_clashes(device.clashes)
+    if call == SETTLE:
+        return settle(house, device, given[0], given[1])
+    return told_state(house, device)
 
 
 def make_date(device, fields):
@@ -115,3 +135,51 @@ def forget(house, floor):
         return [OUT_OF_BOUNDS]
     house.floor = floor
     return [floor]
+
+
+def told_dates(dates):
+    told = [len(dates)]
+    for number in dates:
+        told.append(number)
+        told.extend(dates[number])
+    return told
+
+
+# A date that is made can't clash, so the kind is that of a field set or of a date taken out.
+def told_clashes(clashes):
+    told = [len(clashes)]
+    for clash in clashes:
+        told.extend([clash.count, clash.kind, clash.date, clash.field, clash.what])
+    return told
+
+
+def told_state(house, device):
+    return [
+        device.knows,
+        len(house.changes),
+        device.made,
+        len(device.waiting),
+        len(device.answered),
+        len(device.clashes),
+    ]
+
+
+def settle(house, device, which, again):
+    if again > ONCE_MORE:
+        return [OUT_OF_BOUNDS]
+    if which >= len(device.clashes):
+        return [NO_CLASH]
+    if again == ONCE_MORE:
+        return settle_once_more(house, device, which)
+    device.clashes.pop(which)
+    return [LET_GO]
+
+
+def settle_once_more(house, device, which):
+    clash = device.clashes[which]
+    if clash.date not in device.shown(house):
+        return [DATE_GONE]
+    if device.is_full():
+        return [FULL]
+    device.clashes.pop(which)
+    return [device.add_change(clash.kind, clash.date, clash.field, clash.what, [])]

@@ -1,5 +1,6 @@
 """A change of the calendar, and the dates that come of a row of changes."""
 
+# Clashes are told with the first two of these.
 SET_FIELD = 0
 TAKE_OUT = 1
 MAKE_DATE = 2

@@ -2,8 +2,8 @@
 
 from copieskept.calls import Calendar
 
-# How many numbers a call takes: make, set, remove, push, pull, forget.
-CALL_SIZES = {0: 4, 1: 4, 2: 2, 3: 2, 4: 2, 5: 1}
+# How many numbers a call takes: make, set, remove, push, pull, forget, then shown, house, clashes, settle, state.
+CALL_SIZES = {0: 4, 1: 4, 2: 2, 3: 2, 4: 2, 5: 1, 6: 1, 7: 0, 8: 1, 9: 3, 10: 1}
 
 
 def answers(calls):

@@ -28,6 +28,26 @@ def forget(n):
     return [5, n]
 
 
+def shown(device):
+    return [6, device]
+
+
+def house():
+    return [7]
+
+
+def clashes(device):
+    return [8, device]
+
+
+def settle(device, which=0, again=0):
+    return [9, device, which, again]
+
+
+def state(device):
+    return [10, device]
+
+
 def told(*calls):
     numbers = answers([number for call in calls for number in call])
     rows = []
@@ -44,23 +64,44 @@ def last(*calls):
     return told(*calls)[-1]
 
 
+def rows_of(size, answer):
+    """An answer that has ahead of it how many rows of that size there are."""
+    rows = [answer[start:start + size] for start in range(1, len(answer), size)]
+    if answer[0] != len(rows) or len(answer) != 1 + size * len(rows):
+        raise AssertionError(f"{answer} are not {answer[0]} rows of {size}")
+    return rows
+
+
+def shown_on(device, *calls):
+    return rows_of(4, last(*calls, shown(device)))
+
+
+def at_house(*calls):
+    return rows_of(4, last(*calls, house()))
+
+
+def clashes_on(device, *calls):
+    return rows_of(5, last(*calls, clashes(device)))
+
+
+def state_of(device, *calls):
+    return last(*calls, state(device))
+
+
+def all_told(*calls):
+    """All that can be told of a calendar behind these calls."""
+    asked = [house()]
+    for device in range(3):
+        asked += [shown(device), clashes(device), state(device)]
+    return told(*calls, *asked)[len(calls):]
+
+
 def calendar_behind(*calls):
-    """The calendar itself, for what no call of these tells: fields, clashes, what is answered."""
+    """The calendar itself, for what no call tells: single changes that wait or are answered."""
     calendar = Calendar()
     for call in calls:
         calendar.answer(call[0], call[1:])
     return calendar
-
-
-def shown(device, *calls):
-    calendar = calendar_behind(*calls)
-    dates = calendar.devices[device].shown(calendar.house)
-    return [[number] + fields for number, fields in dates.items()]
-
-
-def at_house(*calls):
-    dates = calendar_behind(*calls).house.dates()
-    return [[number] + fields for number, fields in dates.items()]
 
 
 # Date 0, with fields 10, 20, 30, is made by device 0, and all three devices know of it.

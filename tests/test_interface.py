@@ -15,6 +15,13 @@ class TestAnswers(unittest.TestCase):
     def test_a_refusal_is_one_number(self):
         self.assertEqual(answers([3, 0, 0]), [1, -6])
 
+    def test_house_has_no_numbers_at_all(self):
+        self.assertEqual(answers([7, 7, 10, 0, 7]), [1, 0, 1, 0, 6, 0, 0, 0, 0, 0, 0, 1, 0])
+
+    def test_rows_of_an_answer_have_no_counts_of_their_own(self):
+        self.assertEqual(answers([0, 0, 1, 2, 3, 0, 0, 4, 5, 6, 6, 0]),
+                         [1, 1001, 1, 1002, 9, 2, 1001, 1, 2, 3, 1002, 4, 5, 6])
+
     def test_the_list_handed_in_is_as_it_was(self):
         line = list(LINE)
         answers(line)

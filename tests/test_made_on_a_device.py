@@ -2,7 +2,7 @@
 
 import unittest
 
-from lines import SHARED_DATE, at_house, calendar_behind, last, make, pull, push, remove, set_, shown, told
+from lines import SHARED_DATE, at_house, calendar_behind, last, make, pull, push, remove, set_, shown_on, told
 
 TWENTY_WAIT = [make(0)] * 20
 
@@ -28,8 +28,8 @@ class TestMake(unittest.TestCase):
 
     def test_date_is_shown_there_alone_with_its_fields(self):
         calls = (make(0, 7, 8, 9), make(0, 0, 999, 1))
-        self.assertEqual(shown(0, *calls), [[1001, 7, 8, 9], [1002, 0, 999, 1]])
-        self.assertEqual(shown(1, *calls), [])
+        self.assertEqual(shown_on(0, *calls), [[1001, 7, 8, 9], [1002, 0, 999, 1]])
+        self.assertEqual(shown_on(1, *calls), [])
         self.assertEqual(at_house(*calls), [])
 
     def test_fields_of_999_and_1000(self):
@@ -72,12 +72,12 @@ class TestSet(unittest.TestCase):
 
     def test_each_field_is_shown_there_alone(self):
         calls = SHARED_DATE + (set_(1, 0, 0, 5), set_(1, 0, 2, 0))
-        self.assertEqual(shown(1, *calls), [[0, 5, 20, 0]])
-        self.assertEqual(shown(0, *calls), [[0, 10, 20, 30]])
+        self.assertEqual(shown_on(1, *calls), [[0, 5, 20, 0]])
+        self.assertEqual(shown_on(0, *calls), [[0, 10, 20, 30]])
         self.assertEqual(at_house(*calls), [[0, 10, 20, 30]])
 
     def test_of_a_date_that_waits(self):
-        self.assertEqual(shown(0, make(0, 1, 2, 3), set_(0, 1001, 1, 9)), [[1001, 1, 9, 3]])
+        self.assertEqual(shown_on(0, make(0, 1, 2, 3), set_(0, 1001, 1, 9)), [[1001, 1, 9, 3]])
 
     def test_field_2_and_3(self):
         self.assertEqual(told(make(0), set_(0, 1001, 2, 0), set_(0, 1001, 3, 0), set_(0, 1001, 9, 0))[1:],
@@ -126,7 +126,7 @@ class TestSet(unittest.TestCase):
 
     def test_refusals_change_nothing(self):
         refused = (set_(0, 0, 3, 0), set_(0, 0, 0, 1000), set_(0, 1, 0, 0), set_(3, 0, 0, 0))
-        self.assertEqual(shown(0, *SHARED_DATE, *refused), [[0, 10, 20, 30]])
+        self.assertEqual(shown_on(0, *SHARED_DATE, *refused), [[0, 10, 20, 30]])
         self.assertEqual(told(*SHARED_DATE, *refused, push(0), set_(0, 0, 0, 0))[9:], [[-6], [2]])
 
 
@@ -136,8 +136,8 @@ class TestRemove(unittest.TestCase):
 
     def test_it_is_not_shown_there_any_more(self):
         calls = SHARED_DATE + (make(1, 4, 5, 6), remove(1, 0))
-        self.assertEqual(shown(1, *calls), [[1101, 4, 5, 6]])
-        self.assertEqual(shown(0, *calls), [[0, 10, 20, 30]])
+        self.assertEqual(shown_on(1, *calls), [[1101, 4, 5, 6]])
+        self.assertEqual(shown_on(0, *calls), [[0, 10, 20, 30]])
         self.assertEqual(at_house(*calls), [[0, 10, 20, 30]])
 
     def test_of_a_date_that_waits(self):
@@ -163,7 +163,7 @@ class TestRemove(unittest.TestCase):
 
     def test_refusals_change_nothing(self):
         refused = (remove(0, 7), remove(3, 0))
-        self.assertEqual(shown(0, *SHARED_DATE, *refused), [[0, 10, 20, 30]])
+        self.assertEqual(shown_on(0, *SHARED_DATE, *refused), [[0, 10, 20, 30]])
         self.assertEqual(told(*SHARED_DATE, *refused, push(0), remove(0, 0))[7:], [[-6], [2]])
 
 

@@ -2,7 +2,7 @@
 
 import unittest
 
-from lines import SHARED_DATE, calendar_behind, forget, last, make, pull, push, remove, set_, shown, told
+from lines import SHARED_DATE, calendar_behind, forget, last, make, pull, push, remove, set_, shown_on, told
 
 THREE_CHANGES = (make(0, 1, 1, 1), make(0, 2, 2, 2), make(0, 3, 3, 3), push(0), push(0), push(0))
 
@@ -23,16 +23,16 @@ class TestPull(unittest.TestCase):
         self.assertEqual(last(*SHARED_DATE, remove(0, 0), push(0), pull(1)), [1, 1])
 
     def test_it_is_shown_then(self):
-        self.assertEqual(shown(1, *THREE_CHANGES), [])
-        self.assertEqual(shown(1, *THREE_CHANGES, pull(1)), [[0, 1, 1, 1], [1, 2, 2, 2], [2, 3, 3, 3]])
+        self.assertEqual(shown_on(1, *THREE_CHANGES), [])
+        self.assertEqual(shown_on(1, *THREE_CHANGES, pull(1)), [[0, 1, 1, 1], [1, 2, 2, 2], [2, 3, 3, 3]])
 
     def test_what_waits_is_shown_on_top(self):
         calls = SHARED_DATE + (set_(1, 0, 0, 6), make(1, 7, 7, 7), set_(0, 0, 0, 5), set_(0, 0, 1, 5), push(0), push(0))
-        self.assertEqual(shown(1, *calls, pull(1)), [[0, 6, 5, 30], [1102, 7, 7, 7]])
+        self.assertEqual(shown_on(1, *calls, pull(1)), [[0, 6, 5, 30], [1102, 7, 7, 7]])
 
     def test_a_waiting_change_of_a_date_that_is_gone_does_nothing(self):
         calls = SHARED_DATE + (set_(1, 0, 0, 6), remove(0, 0), push(0), pull(1))
-        self.assertEqual(shown(1, *calls), [])
+        self.assertEqual(shown_on(1, *calls), [])
         self.assertEqual(last(*calls, remove(1, 0)), [-4])
         self.assertEqual(last(*calls, push(1)), [2])
 
@@ -41,7 +41,7 @@ class TestPull(unittest.TestCase):
         self.assertEqual(len(calendar_behind(*calls).devices[0].answered), 4)
         calendar = calendar_behind(*calls, pull(0))
         self.assertEqual((calendar.devices[0].answered, calendar.devices[0].knows), ([], 4))
-        self.assertEqual(shown(0, *calls, pull(0)), [[0, 1, 1, 1], [1, 2, 9, 2], [2, 3, 3, 3]])
+        self.assertEqual(shown_on(0, *calls, pull(0)), [[0, 1, 1, 1], [1, 2, 9, 2], [2, 3, 3, 3]])
 
     def test_1_nothing_comes_back(self):
         calls = (make(0), push(0), pull(1, 1))
@@ -80,7 +80,7 @@ class TestToldAnew(unittest.TestCase):
     def test_it_is_shown_then_and_answered_no_more(self):
         calls = THREE_CHANGES + (make(0, 7, 7, 7), forget(3), pull(0))
         self.assertEqual(last(*calls), [2, 3])
-        self.assertEqual(shown(0, *calls), [[0, 1, 1, 1], [1, 2, 2, 2], [2, 3, 3, 3], [1004, 7, 7, 7]])
+        self.assertEqual(shown_on(0, *calls), [[0, 1, 1, 1], [1, 2, 2, 2], [2, 3, 3, 3], [1004, 7, 7, 7]])
         self.assertEqual(calendar_behind(*calls).devices[0].answered, [])
 
     def test_what_got_lost_or_is_refused_tells_nothing(self):
@@ -112,7 +112,7 @@ class TestForget(unittest.TestCase):
 
     def test_no_date_is_lost(self):
         calls = SHARED_DATE + (forget(1),)
-        self.assertEqual(shown(1, *calls), [[0, 10, 20, 30]])
+        self.assertEqual(shown_on(1, *calls), [[0, 10, 20, 30]])
         self.assertEqual(last(*calls, set_(1, 0, 0, 0)), [1])
 
 

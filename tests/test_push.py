@@ -2,12 +2,9 @@
 
 import unittest
 
-from lines import SHARED_DATE, at_house, calendar_behind, forget, last, make, pull, push, remove, set_, shown, told
-
-
-def clashes(device, *calls):
-    return [(change.count, change.kind, change.date, change.field, change.what)
-            for change in calendar_behind(*calls).devices[device].clashes]
+from lines import (
+    SHARED_DATE, at_house, calendar_behind, clashes_on, forget, last, make, pull, push, remove, set_, shown_on, told,
+)
 
 
 class TestHow(unittest.TestCase):
@@ -28,7 +25,7 @@ class TestHow(unittest.TestCase):
         calls = (make(1, 4, 5, 6), push(1, 2))
         self.assertEqual(last(*calls), [0])
         self.assertEqual(at_house(*calls), [[0, 4, 5, 6]])
-        self.assertEqual(shown(1, *calls), [[1101, 4, 5, 6]])
+        self.assertEqual(shown_on(1, *calls), [[1101, 4, 5, 6]])
         self.assertEqual(last(*calls, pull(0)), [1, 1])
 
     def test_3_is_refused(self):
@@ -72,7 +69,7 @@ class TestNothingIsDoneTwice(unittest.TestCase):
         calls = SHARED_DATE + (set_(0, 0, 0, 5), push(0), set_(1, 0, 0, 6), push(1, 2), push(1))
         self.assertEqual(told(*calls)[8:], [[0], [2]])
         self.assertEqual(at_house(*calls), [[0, 5, 20, 30]])
-        self.assertEqual(clashes(1, *calls), [(1, 0, 0, 0, 6)])
+        self.assertEqual(clashes_on(1, *calls), [[1, 0, 0, 0, 6]])
 
     def test_the_next_count_is_done_behind_a_not_done(self):
         calls = SHARED_DATE + (set_(0, 0, 0, 5), push(0), set_(1, 0, 0, 6), set_(1, 0, 1, 7), push(1), push(1))
@@ -88,11 +85,11 @@ class TestWhatAnotherChangedMeanwhile(unittest.TestCase):
     def pushed_behind(self, first, second):
         """Device 0 brings in `first`, then device 1 `second`, made before it knew of that."""
         calls = SHARED_DATE + (first, second, push(0), push(1))
-        return last(*calls), at_house(*calls), clashes(1, *calls)
+        return last(*calls), at_house(*calls), clashes_on(1, *calls)
 
     def test_same_field(self):
         self.assertEqual(self.pushed_behind(set_(0, 0, 1, 5), set_(1, 0, 1, 6)),
-                         ([2], [[0, 10, 5, 30]], [(1, 0, 0, 1, 6)]))
+                         ([2], [[0, 10, 5, 30]], [[1, 0, 0, 1, 6]]))
 
     def test_same_field_set_to_the_same(self):
         self.assertEqual(self.pushed_behind(set_(0, 0, 1, 5), set_(1, 0, 1, 5))[0], [2])
@@ -101,15 +98,15 @@ class TestWhatAnotherChangedMeanwhile(unittest.TestCase):
         self.assertEqual(self.pushed_behind(set_(0, 0, 1, 5), set_(1, 0, 2, 6)), ([1], [[0, 10, 5, 6]], []))
 
     def test_date_taken_out_by_the_other(self):
-        self.assertEqual(self.pushed_behind(remove(0, 0), set_(1, 0, 1, 6)), ([2], [], [(1, 0, 0, 1, 6)]))
+        self.assertEqual(self.pushed_behind(remove(0, 0), set_(1, 0, 1, 6)), ([2], [], [[1, 0, 0, 1, 6]]))
 
     def test_both_take_it_out(self):
-        self.assertEqual(self.pushed_behind(remove(0, 0), remove(1, 0)), ([2], [], [(1, 1, 0, 0, 0)]))
+        self.assertEqual(self.pushed_behind(remove(0, 0), remove(1, 0)), ([2], [], [[1, 1, 0, 0, 0]]))
 
     def test_taken_out_where_any_field_was_set(self):
         for field in range(3):
             answer, dates, clashing = self.pushed_behind(set_(0, 0, field, 5), remove(1, 0))
-            self.assertEqual((answer, len(dates), clashing), ([2], 1, [(1, 1, 0, 0, 0)]))
+            self.assertEqual((answer, len(dates), clashing), ([2], 1, [[1, 1, 0, 0, 0]]))
 
     def test_another_date(self):
         two_dates = (make(0), make(0), push(0), push(0), pull(0), pull(1))
@@ -146,7 +143,7 @@ class TestWhatAnotherChangedMeanwhile(unittest.TestCase):
         # Pulled while its making still waits, the date is shown under both numbers, and can be taken out by either.
         calls = (make(0), push(0, 2), pull(0), remove(0, 0), remove(0, 1001), push(0), push(0), push(0))
         self.assertEqual(told(*calls)[3:], [[2], [3], [1], [1], [2]])
-        self.assertEqual(clashes(0, *calls), [(3, 1, 0, 0, 0)])
+        self.assertEqual(clashes_on(0, *calls), [[3, 1, 0, 0, 0]])
 
     def test_floor_takes_nothing_from_what_stands_against_a_change(self):
         calls = SHARED_DATE + (set_(1, 0, 0, 6), set_(0, 0, 0, 5), push(0), forget(2), push(1))
@@ -154,14 +151,14 @@ class TestWhatAnotherChangedMeanwhile(unittest.TestCase):
 
     def test_clashes_stand_in_the_order_of_their_answers(self):
         calls = SHARED_DATE + (remove(0, 0), push(0), set_(1, 0, 2, 6), remove(1, 0), push(1), push(1))
-        self.assertEqual(clashes(1, *calls), [(1, 0, 0, 2, 6), (2, 1, 0, 0, 0)])
-        self.assertEqual(clashes(0, *calls), [])
+        self.assertEqual(clashes_on(1, *calls), [[1, 0, 0, 2, 6], [2, 1, 0, 0, 0]])
+        self.assertEqual(clashes_on(0, *calls), [])
 
     def test_what_is_not_done_is_shown_no_more(self):
         calls = SHARED_DATE + (set_(0, 0, 0, 5), push(0), set_(1, 0, 0, 6), push(1))
-        self.assertEqual(shown(1, *calls[:-1]), [[0, 6, 20, 30]])
-        self.assertEqual(shown(1, *calls), [[0, 10, 20, 30]])
-        self.assertEqual(shown(1, *calls, pull(1)), [[0, 5, 20, 30]])
+        self.assertEqual(shown_on(1, *calls[:-1]), [[0, 6, 20, 30]])
+        self.assertEqual(shown_on(1, *calls), [[0, 10, 20, 30]])
+        self.assertEqual(shown_on(1, *calls, pull(1)), [[0, 5, 20, 30]])
 
 
 class TestNumbers(unittest.TestCase):
@@ -175,7 +172,7 @@ class TestNumbers(unittest.TestCase):
 
     def test_house_number_is_shown_once_answered(self):
         calls = (make(1), push(1), make(0, 4, 5, 6), push(0))
-        self.assertEqual(shown(0, *calls), [[1, 4, 5, 6]])
+        self.assertEqual(shown_on(0, *calls), [[1, 4, 5, 6]])
         self.assertEqual(told(*calls, set_(0, 1003, 0, 0), set_(0, 1001, 0, 0), set_(0, 1, 0, 0))[4:],
                          [[-4], [-4], [2]])
 
@@ -187,7 +184,7 @@ class TestNumbers(unittest.TestCase):
         calls = (make(1), push(1), make(0, 1, 2, 3), set_(0, 1001, 1, 9), make(0), remove(0, 1003), push(0))
         waiting = calendar_behind(*calls).devices[0].waiting
         self.assertEqual([change.date for change in waiting], [1, 1003, 1003])
-        self.assertEqual(shown(0, *calls), [[1, 1, 9, 3]])
+        self.assertEqual(shown_on(0, *calls), [[1, 1, 9, 3]])
         self.assertEqual(told(*calls, push(0), push(0), push(0), push(0))[7:], [[1], [1], [1], [-6]])
         self.assertEqual(at_house(*calls, push(0)), [[0, 1, 2, 3], [1, 1, 9, 3]])
 
@@ -196,7 +193,7 @@ class TestNumbers(unittest.TestCase):
                  pull(1), set_(1, 0, 0, 6), push(1), push(0), push(0), push(0))
         self.assertEqual(told(*calls)[7:], [[1], [2], [1]])
         self.assertEqual(at_house(*calls), [[0, 6, 5, 3]])
-        self.assertEqual(clashes(0, *calls), [(2, 0, 0, 0, 5)])
+        self.assertEqual(clashes_on(0, *calls), [[2, 0, 0, 0, 5]])
 
 
 class TestAnswered(unittest.TestCase):
@@ -206,18 +203,18 @@ class TestAnswered(unittest.TestCase):
     def test_done_and_not_known_yet(self):
         calls = (make(1), push(1), make(0, 1, 2, 3), set_(0, 1001, 0, 9), push(0), push(0))
         self.assertEqual(self.answered(0, *calls), [1, 2])
-        self.assertEqual(shown(0, *calls), [[1, 9, 2, 3]])
+        self.assertEqual(shown_on(0, *calls), [[1, 9, 2, 3]])
 
     def test_answered_is_shown_below_what_waits(self):
         calls = SHARED_DATE + (set_(0, 0, 0, 5), push(0), set_(0, 0, 0, 6))
-        self.assertEqual(shown(0, *calls), [[0, 6, 20, 30]])
+        self.assertEqual(shown_on(0, *calls), [[0, 6, 20, 30]])
 
     def test_known_already_by_a_pull_between(self):
         calls = (make(0, 1, 2, 3), push(0, 2), pull(0))
-        self.assertEqual(shown(0, *calls), [[0, 1, 2, 3], [1001, 1, 2, 3]])
+        self.assertEqual(shown_on(0, *calls), [[0, 1, 2, 3], [1001, 1, 2, 3]])
         self.assertEqual(last(*calls, push(0)), [1])
         self.assertEqual(self.answered(0, *calls, push(0)), [])
-        self.assertEqual(shown(0, *calls, push(0)), [[0, 1, 2, 3]])
+        self.assertEqual(shown_on(0, *calls, push(0)), [[0, 1, 2, 3]])
 
     def test_not_known_where_the_pull_came_ahead(self):
         calls = (make(1), push(1), pull(0), make(0), push(0, 2), push(0))
